@@ -228,17 +228,14 @@ func (w *wordFlood) take(k int) {
 	}
 }
 
-func (w *wordFlood) send(node int) bool {
-	sent := false
+func (w *wordFlood) send(node int) {
 	for _, b := range w.near[node] {
 		for of := range w.near {
 			if w.owes[[3]int{node, b, of}] == 1 && w.known[[2]int{node, of}] != 0 && len(w.line) < 40 {
 				w.line = append(w.line, entry(b, node, of, w.known[[2]int{node, of}]))
-				sent = true
 			}
 		}
 	}
-	return sent
 }
 
 // floodStepByWords does a step of a good flood as the document tells it; where
@@ -254,19 +251,12 @@ func floodStepByWords(f impl.Flood, s impl.FloodStep) (impl.Flood, bool) {
 			w.owes[[3]int{s.Node, b, s.Node}] = 1
 		}
 	case s.Kind == 2 && s.K == 0 && isNode:
-		return w.asItWas(f, w.send(s.Node))
+		w.send(s.Node)
 	case s.Kind == 3 && s.Node == 0 && isOnLine:
 		w.line = slices.Delete(w.line, s.K, s.K+1)
 	case s.Kind == 4 && s.Node == 0 && isOnLine:
 		w.take(s.K)
 	default:
-		return f, false
-	}
-	return w.flood(), true
-}
-
-func (w *wordFlood) asItWas(f impl.Flood, done bool) (impl.Flood, bool) {
-	if !done {
 		return f, false
 	}
 	return w.flood(), true
@@ -773,21 +763,65 @@ func TestSendByHand(t *testing.T) {
 	cantStepFlood(t, f, impl.FloodStep{Kind: impl.FlSend, Node: 2, K: -1})
 }
 
+// sendsNothing asks for a FlSend that is done and changes nothing; with a K that
+// is not 0, or by a node that is none, it is not done for all that.
+func sendsNothing(t *testing.T, f impl.Flood, node int) {
+	t.Helper()
+	wantFlood(t, "nothing is sent", mustStepFlood(t, f, flSend(node)), f)
+	for _, k := range []int{math.MinInt, -1, 1, math.MaxInt} {
+		cantStepFlood(t, f, impl.FloodStep{Kind: impl.FlSend, Node: node, K: k})
+	}
+	for _, none := range []int{math.MinInt, -1, len(f.Known), math.MaxInt} {
+		cantStepFlood(t, f, flSend(none))
+	}
+}
+
 func TestSendOfNothing(t *testing.T) {
 	for node := range 3 {
 		f := newsOfThree()
 		f.Owes = noughts(4, 3)
-		cantStepFlood(t, f, flSend(node))
+		sendsNothing(t, f, node)
 		// Of all that is owed nothing is known.
 		f = newsOfThree()
 		f.Known, f.Owes = noughts(3, 3), rows([]int{1, 1, 1}, []int{1, 1, 1}, []int{1, 1, 1}, []int{1, 1, 1})
-		cantStepFlood(t, f, flSend(node))
+		sendsNothing(t, f, node)
 		// Others owe and know, not this one.
 		f.Known = rows([]int{1, 1, 1}, []int{1, 1, 1}, []int{1, 1, 1})
 		f.Known[node] = []int{0, 0, 0}
-		cantStepFlood(t, f, flSend(node))
+		sendsNothing(t, f, node)
+		// Nor is there room, were there something to send.
+		f.Line = letters(40, ackOf(0, 1, 2, 3))
+		sendsNothing(t, f, node)
 	}
-	cantStepFlood(t, mustStepFlood(t, mustNewFlood(t, 1, nil), flSay(0)), flSend(0))
+	sendsNothing(t, mustNewFlood(t, 1, nil), 0)
+	sendsNothing(t, mustStepFlood(t, mustNewFlood(t, 1, nil), flSay(0)), 0)
+}
+
+// A letter for which there is no room is not written; the step is done.
+func TestSendOnAFullLine(t *testing.T) {
+	f := withFlood(func(f *impl.Flood) { f.Line = letters(40, ackOf(0, 1, 2, 3)) })
+	for node := range 3 {
+		sendsNothing(t, f, node)
+	}
+	f.Line = f.Line[:39]
+	want := copyOfFlood(f)
+	want.Line = append(want.Line, entry(0, 1, 1, 3))
+	wantFlood(t, "one of two has room", mustStepFlood(t, f, flSend(1)), want)
+}
+
+func TestPlayFloodOfSendsOfNothing(t *testing.T) {
+	steps := flSteps(flSend(0), flSay(0), flSend(1))
+	steps = append(steps, slices.Repeat(flSteps(flSend(0)), 42)...)
+	steps = append(steps, flSend(2), flSend(-1), impl.FloodStep{Kind: impl.FlSend, K: 1})
+	f, did, ok := impl.PlayFlood(2, chain(2), steps)
+	want := append(slices.Repeat([]bool{true}, 45), false, false, false)
+	if !ok || !slices.Equal(did, want) {
+		t.Fatal(did, ok)
+	}
+	wantFlood(t, "PlayFlood", f, impl.Flood{
+		Links: chain(2), Known: rows([]int{1, 0}, []int{0, 0}), Owes: rows([]int{1, 0}, []int{0, 0}),
+		Line: letters(40, entry(1, 0, 0, 1)),
+	})
 }
 
 // full is a flood of all nodes in which all is known, and owed by all to all.
@@ -816,10 +850,6 @@ func TestSendOfMoreThanThereIsRoomFor(t *testing.T) {
 	for onLine := range 41 {
 		f := full()
 		f.Line = letters(onLine, ackOf(0, 1, 2, 3))
-		if onLine == 40 {
-			cantStepFlood(t, f, flSend(3))
-			continue
-		}
 		want := copyOfFlood(f)
 		want.Line = append(want.Line, sent...)
 		want.Line = want.Line[:min(40, len(want.Line))]
@@ -999,7 +1029,7 @@ func TestPlayFloodPassesOverWhatCantBeDone(t *testing.T) {
 
 func TestPlayFloodByHand(t *testing.T) {
 	f, did, ok := impl.PlayFlood(3, chain(3), flSteps(flSay(1), flSend(1), flTake(1), flTake(0), flTake(1), flSend(2)))
-	if !ok || !slices.Equal(did, []bool{true, true, true, true, true, false}) {
+	if !ok || len(did) != 6 || slices.Contains(did, false) {
 		t.Fatal(did, ok)
 	}
 	wantFlood(t, "PlayFlood", f, impl.Flood{
@@ -1025,7 +1055,7 @@ func TestPlayFloodLimits(t *testing.T) {
 			t.Errorf("as many as may be: %v, %v", did, ok)
 		}
 		for k, d := range did {
-			if d != (s.Kind == impl.FlSay && k < 60) {
+			if d != (s.Kind == impl.FlSay && k < 60 || s.Kind == impl.FlSend) {
 				t.Errorf("step %d, %v, done: %v", k, s, d)
 			}
 		}
