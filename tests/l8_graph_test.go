@@ -201,6 +201,41 @@ type graph struct {
 	l     []impl.Edge
 }
 
+// graphsOf are all edges that there can be among the spots, each there or not,
+// with a Cost by the number of the two in allTwos, or by these.
+func graphsOf(spots int, cost func(int, [2]int) int) [][]impl.Edge {
+	var all [][]impl.Edge
+	twos := allTwos(spots)
+	for picked := range 1 << len(twos) {
+		var l []impl.Edge
+		for k, two := range twos {
+			if picked>>k&1 == 1 {
+				l = append(l, edge(two[0], two[1], cost(k, two)))
+			}
+		}
+		all = append(all, l)
+	}
+	return all
+}
+
+// smallGraphs have each edge among up to four spots, or not, with each Cost of 1 to 3.
+func smallGraphs() []graph {
+	var all []graph
+	for spots := 1; spots <= 4; spots++ {
+		twos := allTwos(spots)
+		for picked := range 1 << (2 * len(twos)) {
+			var l []impl.Edge
+			for k, two := range twos {
+				if cost := picked >> (2 * k) & 3; cost > 0 {
+					l = append(l, edge(two[0], two[1], cost))
+				}
+			}
+			all = append(all, graph{spots, l})
+		}
+	}
+	return all
+}
+
 func edgesThatAreNone() []graph {
 	all := []graph{
 		{12, edgesFrom(12, 0, 41)}, {12, edgesFrom(12, 25, 41)}, {12, edgesFrom(12, 0, 66)}, {10, edgesFrom(10, 0, 41)},
@@ -827,18 +862,10 @@ func TestEdgeNumbersThatAreNone(t *testing.T) {
 	}
 }
 
-// All edges that there can be among up to five spots, each there or not.
 func TestGroupsOfAllSmallGraphs(t *testing.T) {
 	graphs := 0
 	for spots := 1; spots <= 5; spots++ {
-		twos := allTwos(spots)
-		for picked := range 1 << len(twos) {
-			var l []impl.Edge
-			for k, two := range twos {
-				if picked>>k&1 == 1 {
-					l = append(l, edge(two[0], two[1], 1+k))
-				}
-			}
+		for _, l := range graphsOf(spots, func(k int, _ [2]int) int { return 1 + k }) {
 			groupsAreAsSaid(t, spots, l)
 			nearAreAsSaid(t, spots, l)
 			graphs++

@@ -475,32 +475,15 @@ func TestShortOfAChain(t *testing.T) {
 	}
 }
 
-// Each edge among four spots is there, or not, with each Cost of 1 to 3.
 func TestShortOfAllSmallGraphs(t *testing.T) {
-	for spots := 1; spots <= 4; spots++ {
-		twos := allTwos(spots)
-		for picked := range 1 << (2 * len(twos)) {
-			var l []impl.Edge
-			for k, two := range twos {
-				if cost := picked >> (2 * k) & 3; cost > 0 {
-					l = append(l, edge(two[0], two[1], cost))
-				}
-			}
-			allIsAsSaid(t, spots, l)
-			bestOfAllWays(t, spots, l)
-		}
+	for _, g := range smallGraphs() {
+		allIsAsSaid(t, g.spots, g.l)
+		bestOfAllWays(t, g.spots, g.l)
 	}
 }
 
 func TestShortOfAllGraphsOfFiveSpots(t *testing.T) {
-	twos := allTwos(5)
-	for picked := range 1 << len(twos) {
-		var l []impl.Edge
-		for k, two := range twos {
-			if picked>>k&1 == 1 {
-				l = append(l, edge(two[0], two[1], two[1]-two[0]))
-			}
-		}
+	for _, l := range graphsOf(5, func(_ int, two [2]int) int { return two[1] - two[0] }) {
 		allIsAsSaid(t, 5, l)
 		bestOfAllWays(t, 5, l)
 	}
@@ -1015,30 +998,42 @@ func refusesShort(t *testing.T, spots int, l []impl.Edge) {
 	cantCentre(t, spots, l)
 }
 
-func TestShortOfEdgesThatAreNone(t *testing.T) {
+// overWrongEdges and overDamagedEdges ask each time the question for edges, or
+// spots, that are not as said; the latter also that of good ones.
+func overWrongEdges(t *testing.T, refuses func(*testing.T, int, []impl.Edge)) {
+	t.Helper()
 	for _, g := range edgesThatAreNone() {
 		l := edgesBehind(g.l)
-		refusesShort(t, g.spots, l)
+		refuses(t, g.spots, l)
 		wantEdgesKept(t, l, g.l)
 	}
 }
 
-func TestShortOfDamagedEdges(t *testing.T) {
-	r := rand.New(rand.NewSource(907))
+func overDamagedEdges(t *testing.T, seed int64, holds func(*testing.T, int, []impl.Edge), refuses func(*testing.T, int, []impl.Edge)) {
+	t.Helper()
+	r := rand.New(rand.NewSource(seed))
 	good := 0
 	for range 3000 {
 		spots, l := randomGraph(r)
 		spots, l = damageEdges(r, spots, l)
 		if goodEdgesByWords(spots, l) {
-			centreIsAsSaid(t, spots, l)
+			holds(t, spots, l)
 			good++
 		} else {
-			refusesShort(t, spots, l)
+			refuses(t, spots, l)
 		}
 	}
 	if good < 100 || good > 2900 {
 		t.Errorf("%d are good: too few of one sort", good)
 	}
+}
+
+func TestShortOfEdgesThatAreNone(t *testing.T) {
+	overWrongEdges(t, refusesShort)
+}
+
+func TestShortOfDamagedEdges(t *testing.T) {
+	overDamagedEdges(t, 907, centreIsAsSaid, refusesShort)
 }
 
 func TestShortAnswersAreNewMemory(t *testing.T) {
